@@ -2,13 +2,9 @@ import itertools
 import random
 import unittest
 
-from anything import anything
+from helper import all_rows_of, anything, orders_that_keep, ring_by_the_words
 from parentlines.errors import LineError, Ring
 from parentlines.rows import is_ring, is_row, keeps, merged
-
-
-def all_rows_of(names):
-    return [row for many in range(len(names) + 1) for row in itertools.permutations(names, many)]
 
 
 def small_cases():
@@ -27,32 +23,6 @@ def small_cases():
             rows.append(tuple(row))
         cases.append(tuple(rows))
     return cases
-
-
-def orders_that_keep(rows):
-    """By the words of point 5: tried one by one, in the order of point 6."""
-    ranks = {}
-    for rank, row in enumerate(rows):
-        for name in row:
-            ranks.setdefault(name, rank)
-    fit = []
-    for order in itertools.permutations(sorted(ranks)):
-        place = {name: at for at, name in enumerate(order)}
-        if all(place[a] < place[b] for row in rows for a, b in zip(row, row[1:])):
-            fit.append(order)
-    return sorted(fit, key=lambda order: [ranks[name] for name in order])
-
-
-def ring_by_the_words(rows, ring):
-    """Point 7, of a tuple of triples."""
-    if len(ring) < 2 or len({a for k, a, b in ring}) != len(ring):
-        return False
-    for at, (k, a, b) in enumerate(ring):
-        if not 0 <= k < len(rows) or (a, b) not in itertools.combinations(rows[k], 2):
-            return False
-        if b != ring[(at + 1) % len(ring)][1]:
-            return False
-    return True
 
 
 CASES = [(rows, orders_that_keep(rows)) for rows in small_cases()]

@@ -1,7 +1,8 @@
 import unittest
 
-from anything import anything
-from parentlines.words import is_name, is_whole
+from helper import anything
+from parentlines.errors import NoName
+from parentlines.words import are_rising, check_name, is_name, is_whole
 
 
 class WholeNumbers(unittest.TestCase):
@@ -40,3 +41,20 @@ class Names(unittest.TestCase):
             self.assertIs(is_name(thing), False)
         for thing in (b"a", ("a",), ["a"], {"a"}, {"a": 1}):
             self.assertIs(is_name(thing), False)
+
+    def test_what_is_none_is_refused(self):
+        for name in ("a", "abcdefgh"):
+            self.assertIsNone(check_name(name))
+        for thing in anything():
+            with self.assertRaises(NoName):
+                check_name(thing)
+
+
+class Rising(unittest.TestCase):
+    def test_sorted_and_no_two_alike(self):
+        for names in ([], ["a"], ["a", "aa", "b"], [("a", "b"), ("a", "c"), ("b", "a")]):
+            self.assertIs(are_rising(names), True)
+
+    def test_others(self):
+        for names in (["b", "a"], ["a", "a"], ["a", "c", "b"], [("a", "b"), ("a", "b")], [("b", "a"), ("a", "b")]):
+            self.assertIs(are_rising(names), False)
