@@ -40,3 +40,17 @@ def is_step(thing):
 def begins_with_text(thing):
     """Whether a thing is a tuple with a text in its first place."""
     return isinstance(thing, tuple) and len(thing) > 0 and isinstance(thing[0], str)
+
+
+def goes_first(entry):
+    """Whether an entry tells its name also of a thing that has an own number of it."""
+    return entry[0] in ("ahead", "shut")
+
+
+def steps_of(entry):
+    """The steps that lead from 0 to what the entry tells."""
+    if entry[0] == "plain":
+        return (("add", entry[1]),)
+    if entry[0] == "ahead":
+        return (("ask", entry[1]), ("add", entry[2]))
+    return entry[1]

@@ -1,9 +1,8 @@
 import itertools
-import unittest
 
-from helper import anything, places, with_lists
+from helper import Refusing, anything, places, with_lists
 from parentlines.books import is_book, name_given, name_taken
-from parentlines.errors import LineError, NoEntry, NoKind, NoName
+from parentlines.errors import NoEntry, NoKind, NoName
 
 FAMILY = (("b", ("o",)), ("c", ("o",)), ("d", ("b", "c")), ("o", ()))
 ONE, TWO, BASE = ("plain", 1), ("behind", (("onward",), ("add", 2))), ("ahead", "a", -1)
@@ -11,14 +10,7 @@ BOOK = (("b", "a", ONE), ("b", "b", TWO), ("d", "a", BASE), ("o", "a", ONE), ("o
 NO_ENTRIES = [("plain",), ("plain", True), ["plain", 1], ("times", 1), ("behind", (("times", 10),)), ("onward",), ()]
 
 
-class Books(unittest.TestCase):
-    def refused(self, error, deed, *handed):
-        with self.assertRaises(LineError) as caught:
-            deed(*handed)
-        self.assertIs(type(caught.exception), error, handed)
-
-
-class IsBook(Books):
+class IsBook(Refusing):
     def check(self, thing, told):
         self.assertIs(is_book(FAMILY, thing), told, thing)
 
@@ -73,7 +65,7 @@ class IsBook(Books):
                     self.assertIn(is_book(FAMILY, other), (True, False))
 
 
-class Given(Books):
+class Given(Refusing):
     def test_a_name_more(self):
         self.assertEqual(name_given(FAMILY, (), "c", "a", ONE), (("c", "a", ONE),))
         told = name_given(FAMILY, BOOK, "c", "z", TWO)
@@ -114,7 +106,7 @@ class Given(Books):
             self.refused(NoName, name_given, FAMILY, BOOK, "b", thing, thing)
 
 
-class Taken(Books):
+class Taken(Refusing):
     def test_a_name_less(self):
         for at, (kind, name, entry) in enumerate(BOOK):
             self.assertEqual(name_taken(FAMILY, BOOK, kind, name), BOOK[:at] + BOOK[at + 1:])
@@ -143,7 +135,7 @@ class Taken(Books):
             self.refused(NoKind, name_taken, FAMILY, BOOK, thing, thing)
 
 
-class WhatIsTold(Books):
+class WhatIsTold(Refusing):
     def test_books_of_the_family_in_any_order_of_deeds(self):
         for order in itertools.permutations(BOOK):
             book = ()

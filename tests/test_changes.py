@@ -1,11 +1,11 @@
 import itertools
 import random
-import unittest
 
 from helper import (
-    all_rows_of, anything, family_of, forebears, is_way, lines_by_the_words, parents_by_chance, ring_by_the_words)
+    Refusing, all_rows_of, anything, family_of, forebears, is_way, lines_by_the_words, parents_by_chance,
+    ring_by_the_words)
 from parentlines.changes import kind_changed, kind_let_go, kind_made
-from parentlines.errors import InUse, LineError, NoKind, NoName, NoParents, Ring, Round, Taken
+from parentlines.errors import InUse, NoKind, NoName, NoParents, Ring, Round, Taken
 from parentlines.families import is_family, line_of
 
 DIAMOND = (("b", ("o",)), ("c", ("o",)), ("d", ("b", "c")), ("o", ()))
@@ -16,13 +16,7 @@ NO_PARENTS = [
     ("z",), ("b", "z"), ("b", "b"), ("b", "c", "b"), ["b"], [], "b", "", None, {"b": 1}, {"b"}, ("B",), (1,), ("",)]
 
 
-class Changes(unittest.TestCase):
-    def refused(self, error, deed, *handed):
-        with self.assertRaises(LineError) as caught:
-            deed(*handed)
-        self.assertIs(type(caught.exception), error, handed)
-        return caught.exception
-
+class Changes(Refusing):
     def check_ring(self, refusal, above):
         """Points 7 and 10, of the parents as they would be."""
         lines, rings = lines_by_the_words(above)
