@@ -2,8 +2,7 @@
 
 from parentlines.entries import goes_first, steps_of
 from parentlines.errors import Endless, Missing
-from parentlines.families import line_of
-from parentlines.finds import check_behind, entries_by_place, found_along
+from parentlines.finds import check_behind, finds_in
 from parentlines.words import check_name
 from parentlines.worlds import kind_and_own
 
@@ -13,73 +12,139 @@ def number_asked(world, thing, name, behind=""):
 
     Refused with NoThing, NoName, NotAbove; Missing, Endless, as they come.
     """
-    family, book, things = world
-    kind, own = kind_and_own(world, thing)
+    return whole_asked(world, thing, name, behind).known[(name, behind)][1]
+
+
+def whole_asked(world, thing, name, behind):
+    """All that comes of an asking; refused as number_asked."""
+    whole = whole_of(world, thing)
     check_name(name)
-    line = line_of(family, kind)
-    check_behind(line, behind)
-    return Whole(line, entries_by_place(book), dict(own)).tell((name, behind))
+    check_behind(whole.forebears(), behind)
+    whole.tell((name, behind))
+    return whole
+
+
+def whole_of(world, thing):
+    """A whole in which nothing is asked of the thing yet; refused with NoThing."""
+    kind, own = kind_and_own(world, thing)
+    return Whole(finds_in(world[0], world[1]), kind, dict(own), {})
 
 
 class Whole:
-    """All that comes of one asking of a thing; an asking is a pair of a name and the kind behind which, or no text."""
+    """All that comes of one asking of a thing; an asking is a pair of a name and the kind behind which, or no text.
 
-    def __init__(self, forebears, entries, own):
-        self.forebears = forebears
-        self.entries = entries
+    Of an asking is known: where its entry stands (no text for an own number), the number, the names it rests on.
+    """
+
+    def __init__(self, finds, kind, own, kept):
+        self.finds = finds
+        self.kind = kind
         self.own = own
-        self.known = {}
+        self.kept = kept
+        self.known = dict(kept)
+        self.begun = 0
+
+    def forebears(self):
+        """The line of the thing's kind."""
+        return self.finds.lines[self.kind]
 
     def tell(self, first):
-        """The number of an asking; refused with Missing, Endless."""
+        """What is known of an asking behind it; refused with Missing, Endless."""
         # Askings within one another stand in a list, not in calls within calls, so that they may be many.
-        standing = [first]
+        standing = []
+        self.enter(standing, first)
         while standing:
-            needed = self.reckon(standing[-1])
+            needed = self.go_on(standing[-1])
             if needed is None:
-                standing.pop()
-            elif needed in standing:
-                raise Endless(round_from(standing, needed))
+                self.settle(standing.pop())
             else:
-                standing.append(needed)
+                self.enter(standing, needed)
         return self.known[first]
 
-    def reckon(self, asking):
-        """Makes the number of an asking known, or tells the first asking it needs that is not known yet."""
+    def tell_at_once(self, asking):
+        """What comes of an asking by what is known alone, or None where it comes to more; refused with Missing."""
+        standing = []
+        self.enter(standing, asking)
+        if standing and self.go_on(standing[0]) is None:
+            self.settle(standing[0])
+        return self.known.get(asking)
+
+    def enter(self, standing, asking):
+        """Makes an asking known, or lets its entry stand, to be reckoned; refused with Missing, Endless."""
+        if asking in self.known:
+            return
+        if asking in [reckoning.asking for reckoning in standing]:
+            raise Endless(round_from(standing, asking))
         name, behind = asking
-        hit = found_along(self.forebears, self.entries, name, behind)
+        hit = self.finds.look(self.kind, name, behind)
         if behind == "" and name in self.own and (hit is None or not goes_first(hit[1])):
-            self.known[asking] = self.own[name]
-            return None
-        if hit is None:
+            self.known[asking] = ("", self.own[name], (name,))
+        elif hit is None:
             raise Missing(name)
-        total = 0
-        for step in steps_of(hit[1]):
-            needed = self.come_to(name, hit[0], step)
-            if needed is not None and needed not in self.known:
+        elif hit[1][0] == "plain":
+            self.known[asking] = (hit[0], hit[1][1], (name,))
+        else:
+            self.begun += 1
+            standing.append(Reckoning(asking, hit[0], steps_of(hit[1])))
+
+    def go_on(self, reckoning):
+        """Goes the steps up to one whose asking is not known yet, and tells that asking; None where none is left."""
+        while reckoning.left:
+            step = reckoning.left[0]
+            needed = self.come_to(reckoning, step)
+            if needed is None:
+                reckoning.step_by(step)
+            elif needed in self.known:
+                reckoning.take_in(self.known[needed])
+            else:
                 return needed
-            total = self.stepped(total, step, needed)
-        self.known[asking] = total
+            reckoning.left.pop(0)
         return None
 
-    def come_to(self, name, where, step):
-        """The asking that a step comes to, of an entry of the name that stands at a kind; or None."""
+    def come_to(self, reckoning, step):
+        """The asking that a step comes to, or None."""
         if step[0] == "ask":
             return (step[1], "")
-        if step[0] == "onward" and found_along(self.forebears, self.entries, name, where) is not None:
+        if step[0] != "onward":
+            return None
+        name, where = reckoning.asking[0], reckoning.where
+        # What is known is not looked for again: a house that keeps a number looks for nothing.
+        if (name, where) in self.known or self.finds.look(self.kind, name, where) is not None:
             return (name, where)
         return None
 
-    def stepped(self, total, step, needed):
-        """What a step makes of the total, the asking that it comes to, if there is one, being known."""
+    def settle(self, reckoning):
+        """Makes known, and keeps, what was reckoned to its end."""
+        told = (reckoning.where, reckoning.total, tuple(sorted(set(reckoning.rested))))
+        self.known[reckoning.asking] = told
+        self.kept[reckoning.asking] = told
+
+
+class Reckoning:
+    """An entry that is reckoned: its asking, where it stands, the steps that are left, what came of the others."""
+
+    def __init__(self, asking, where, steps):
+        self.asking = asking
+        self.where = where
+        self.left = list(steps)
+        self.total = 0
+        self.rested = [asking[0]]
+
+    def step_by(self, step):
+        """Goes a step that comes to no asking."""
         if step[0] == "add":
-            return total + step[1]
+            self.total += step[1]
         if step[0] == "times":
-            return total * step[1]
-        return total if needed is None else total + self.known[needed]
+            self.total *= step[1]
+
+    def take_in(self, told):
+        """Adds what is known of an asking that a step comes to."""
+        self.total += told[1]
+        self.rested.extend(told[2])
 
 
 def round_from(standing, again):
-    """The round of names that shows that an asking is come to again while it stands."""
+    """The round of names that shows that an asking is come to again while its entry stands."""
     # Onward steps only go on in the line, so a round has askings behind none, and their names are unlike.
-    return tuple([name for name, behind in standing[standing.index(again):] if behind == ""])
+    askings = [reckoning.asking for reckoning in standing]
+    return tuple([name for name, behind in askings[askings.index(again):] if behind == ""])

@@ -45,11 +45,21 @@ def is_thing(world, thing):
     return is_name(thing) and thing in [triple[0] for triple in world[2]]
 
 
-def kind_and_own(world, thing):
-    """The kind of a thing and its own numbers, a tuple of pairs; refused with NoThing."""
+def check_thing(world, thing):
+    """Refuses with NoThing what is no thing of the world."""
     if not is_thing(world, thing):
         raise NoThing("no thing of the world")
+
+
+def kind_and_own(world, thing):
+    """The kind of a thing and its own numbers, a tuple of pairs; refused with NoThing."""
+    check_thing(world, thing)
     return [triple[1:] for triple in world[2] if triple[0] == thing][0]
+
+
+def kind_of(world, thing):
+    """The kind of a thing; refused with NoThing."""
+    return kind_and_own(world, thing)[0]
 
 
 def thing_begun(world, thing, kind):
@@ -63,7 +73,7 @@ def thing_begun(world, thing, kind):
 
 def thing_ended(world, thing):
     """The world without a thing; refused with NoThing."""
-    kind_and_own(world, thing)
+    check_thing(world, thing)
     return (world[0], world[1], without_thing(world, thing))
 
 

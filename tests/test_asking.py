@@ -1,6 +1,6 @@
 import random
 
-from helper import ByTheWords, Refusing, anything, askings_of, book_of, world_by_chance
+from helper import ByTheWords, Refusing, anything, askings_of, book_of, chain_world, world_by_chance
 from parentlines.asking import number_asked
 from parentlines.errors import Endless, LineError, Missing, NoName, NotAbove, NoThing
 
@@ -244,37 +244,24 @@ class WithoutEnd(Asking):
 
 
 class ManyAskings(Asking):
-    kinds = "abcdefgh"
     names = ("na", "nb", "nc", "nd", "ne", "nf")
 
-    def world(self, steps_on, steps_over, last):
-        """Six names at each of eight kinds of one line: onward along the line, then over to the next name."""
-        family = tuple((kind, tuple(self.kinds[at + 1:at + 2])) for at, kind in enumerate(self.kinds))
-        book = []
-        for kind in self.kinds:
-            for name, over in zip(self.names, self.names[1:] + ("",)):
-                entry = ("behind", tuple(steps_on))
-                if kind == "h":
-                    entry = ("behind", tuple((word, over) for word in steps_over)) if over else last
-                book.append((kind, name, entry))
-        return (family, tuple(book), (("t", "a", ()),))
-
     def test_nearly_fifty_within_one_another(self):
-        world = self.world([ONWARD, ("add", 1)], ["ask"], ("plain", 5))
+        world = chain_world([ONWARD, ("add", 1)], ["ask"], ("plain", 5))
         self.assertEqual(number_asked(world, "t", "na"), 5 + 6 * 7)
 
     def test_a_round_of_nearly_fifty_askings(self):
-        world = self.world([ONWARD, ("add", 1)], ["ask"], ("ahead", "na", 1))
+        world = chain_world([ONWARD, ("add", 1)], ["ask"], ("ahead", "na", 1))
         names = self.asked_in_vain(Endless, world, "t", "na").names
         self.assertEqual(sorted(names), sorted(self.names))
         self.assertTrue(ByTheWords(world, "t").is_round(names))
 
     def test_a_way_of_nearly_fifty_to_what_is_missing(self):
-        world = self.world([ONWARD], ["ask"], ("ahead", "z", 1))
+        world = chain_world([ONWARD], ["ask"], ("ahead", "z", 1))
         self.assertEqual(self.asked_in_vain(Missing, world, "t", "na").name, "z")
 
     def test_again_and_again_comes_home_at_once(self):
-        world = self.world([ONWARD] * 4, ["ask"] * 4, ("plain", 1))
+        world = chain_world([ONWARD] * 4, ["ask"] * 4, ("plain", 1))
         self.assertEqual(number_asked(world, "t", "na"), 4 ** 47)
 
     def test_again_and_again_by_names(self):
