@@ -6,7 +6,8 @@ import unittest
 from parentlines.asking import number_asked
 from parentlines.books import name_given, name_taken
 from parentlines.changes import kind_changed, kind_let_go, kind_made
-from parentlines.errors import Endless, InUse, LineError, Missing
+from parentlines.errors import Endless, InUse, LineError, Missing, NotAbove, NoThing
+from parentlines.families import line_of
 from parentlines.finds import found_at
 from parentlines.putting import number_dropped, number_put
 from parentlines.worlds import thing_begun, thing_ended, thing_turned
@@ -457,6 +458,11 @@ def outcome(deed, *handed, rounds=None):
         return (type(refusal), refusal.name if type(refusal) is Missing else None)
 
 
+def by_the_words(told):
+    """The outcome of an asking as the houses by the words tell it."""
+    return {"told": ("number", told[1]), Missing: ("missing", told[1]), Endless: ("endless",)}[told[0]]
+
+
 def kept_by(house):
     """All that a house tells of itself without looking for anything."""
     family, book, things = house.world()
@@ -476,6 +482,28 @@ def kept_by_the_words(model):
     rests = {(thing,) + row[:2]: model.rests(thing, *row[:2]) for thing in numbers for row in numbers[thing]}
     stamps = {kind: model.stamp(kind) for kind, parents in family}
     return (model.world, dict(lines_in(family)), finds, numbers, rests, stamps, model.walked, model.reckoned)
+
+
+def all_told(house):
+    """All that a house tells of kinds and things; of refusals the class, and the name that is missing."""
+    told = {asking: outcome(house.ask, *asking) for asking in askings_of(house.world())}
+    for kind, parents in house.world()[0]:
+        told[kind] = house.line(kind)
+        for name in NAMES:
+            for behind in ("",) + house.line(kind):
+                told[("at", kind, name, behind)] = house.found(kind, name, behind)
+    return told
+
+
+def told_plainly(world):
+    """The same by the plain functions."""
+    told = {asking: outcome(number_asked, world, *asking) for asking in askings_of(world)}
+    for kind, parents in world[0]:
+        told[kind] = line_of(world[0], kind)
+        for name in NAMES:
+            for behind in ("",) + told[kind]:
+                told[("at", kind, name, behind)] = found_at(world[0], world[1], kind, name, behind)
+    return told
 
 
 class Twins(Refusing):
@@ -510,8 +538,7 @@ class Twins(Refusing):
         self.assertTrue(all(ByTheWords(self.model.world, thing).is_round(names) for names in rounds))
         self.assertEqual(told, outcome(number_asked, self.model.world, thing, name, behind))
         would = self.model.ask(thing, name, behind)
-        self.assertEqual(would, {
-            "told": ("number", told[1]), Missing: ("missing", told[1]), Endless: ("endless",)}[told[0]])
+        self.assertEqual(would, by_the_words(told))
         self.alike()
         return would[0]
 
@@ -561,9 +588,55 @@ def deed_by_chance(chance, world):
     return (word, kind if word == "let_go" else thing)
 
 
+class AskerByTheWords:
+    """Point 25, of a house by the words; the oldest pair first."""
+
+    def __init__(self, model, name, many=1):
+        self.model, self.name, self.many = model, name, many
+        self.pairs, self.misses = [], 0
+
+    def tells(self, thing):
+        kind = self.model.kind_of(thing)
+        pair = (kind, self.model.stamp(kind))
+        if pair not in self.pairs:
+            self.misses += 1
+            self.model.look(kind, self.name)
+            same = [other for other in self.pairs if other[0] == kind]
+            gone = same or (self.pairs[:1] if len(self.pairs) == self.many else [])
+            self.pairs = [other for other in self.pairs if other not in gone] + [pair]
+        return self.model.ask(thing, self.name)
+
+
+class GoerByTheWords:
+    """Point 26, of a house by the words."""
+
+    def __init__(self, model, thing, name):
+        self.model, self.thing, self.name, self.place = model, thing, name, ""
+
+    def go(self):
+        """("told", a kind or None), or the refusal's class with None."""
+        if self.thing not in [thing for thing, kind, own in self.model.world[2]]:
+            return (NoThing, None)
+        kind = self.model.kind_of(self.thing)
+        if self.place not in ("",) + self.model.line(kind):
+            return (NotAbove, None)
+        found = self.model.look(kind, self.name, self.place)
+        if found is not None:
+            self.place = found[0]
+        return ("told", found and found[0])
+
+
 def book_of(entries):
     """A book of a dict of entries, by texts of a kind of one letter and a name."""
     return tuple(sorted((place[0], place[1:], entry) for place, entry in entries.items()))
+
+
+def entry_text(entry):
+    """An entry as point 27 writes it."""
+    words = [entry[0]]
+    for part in entry[1:]:
+        words += [str(word) for step in part for word in step] if isinstance(part, tuple) else [str(part)]
+    return " ".join(words)
 
 
 def entry_by_chance(chance, names):

@@ -142,3 +142,36 @@ class Form(unittest.TestCase):
                     self.assertNotIn("%", node.value, path)
                 if isinstance(node, ast.FormattedValue):
                     self.assertIsNone(node.format_spec, path)
+
+    def test_sets_stand_where_their_order_can_t_be_seen(self):
+        for path, tree in self.trees():
+            allowed = []
+            for node in ast.walk(tree):
+                if isinstance(node, ast.Call) and isinstance(node.func, ast.Name) and node.func.id in ("sorted", "len"):
+                    allowed += node.args
+                if isinstance(node, ast.Compare):
+                    allowed += node.comparators
+            for node in ast.walk(tree):
+                called = isinstance(node, ast.Call) and isinstance(node.func, ast.Name) and node.func.id == "set"
+                if called or isinstance(node, (ast.Set, ast.SetComp)):
+                    self.assertIn(node, allowed, (path, node.lineno))
+
+    def test_tries(self):
+        for path, tree in self.trees():
+            for node in [node for node in ast.walk(tree) if isinstance(node, ast.Try)]:
+                for row in node.finalbody:
+                    self.assertIsInstance(row, ast.AugAssign, (path, row.lineno))
+                    self.assertIsInstance(row.value, ast.Attribute, (path, row.lineno))
+                for handler in node.handlers:
+                    self.assertIsInstance(handler.type, ast.Name, (path, handler.lineno))
+                    self.assertNotIn(handler.type.id, ("Exception", "TypeError"), (path, handler.lineno))
+                    if handler.type.id in ("ValueError", "LookupError", "IndexError"):
+                        calls = [part.func.id for part in ast.walk(node) if isinstance(part, ast.Call)]
+                        self.assertFalse(set(calls) - {"int", "str", "len"}, (path, handler.lineno))
+
+    def test_no_keywords_and_no_stars_at_calls(self):
+        for path, tree in self.trees():
+            for node in ast.walk(tree):
+                if isinstance(node, ast.Call):
+                    self.assertEqual(node.keywords, [], (path, node.lineno))
+                self.assertNotIsInstance(node, ast.Starred, path)

@@ -2,9 +2,8 @@
 
 import random
 
-from helper import HouseByTheWords, NAMES, Twins, askings_of, deed_by_chance, kept_by, outcome, world_by_chance
-from parentlines.asking import number_asked
-from parentlines.finds import found_at
+from helper import (
+    NAMES, HouseByTheWords, Twins, all_told, deed_by_chance, kept_by, outcome, told_plainly, world_by_chance)
 from parentlines.house import House, house_of
 
 
@@ -58,23 +57,6 @@ class ByChance(Twins):
 class KeepsNothingOrMuch(Twins):
     """Three houses to which the same deeds are done: one asked all and often, one now and then, one never."""
 
-    def all_told(self, house):
-        world = house.world()
-        told = {asking: outcome(house.ask, *asking) for asking in askings_of(world)}
-        for kind, parents in world[0]:
-            for name in NAMES:
-                for behind in ("",) + house.line(kind):
-                    told[("at", kind, name, behind)] = outcome(house.found, kind, name, behind)
-        return told
-
-    def told_plainly(self, world):
-        told = {asking: outcome(number_asked, world, *asking) for asking in askings_of(world)}
-        for kind, parents in world[0]:
-            for name in NAMES:
-                for behind in ("",) + house_of(world).line(kind):
-                    told[("at", kind, name, behind)] = outcome(found_at, world[0], world[1], kind, name, behind)
-        return told
-
     def test_whatever_was_asked_ahead(self):
         chance = random.Random(73)
         for turn in range(12):
@@ -84,12 +66,12 @@ class KeepsNothingOrMuch(Twins):
                 told = [outcome(getattr(house, word), *handed) for house in (busy, lazy, silent)]
                 self.assertEqual(told, [told[0]] * 3)
                 self.assertEqual([house.world() for house in (lazy, silent)], [busy.world()] * 2)
-                plainly = self.told_plainly(busy.world())
-                self.assertEqual(self.all_told(busy), plainly)
-                self.assertEqual(self.all_told(house_of(busy.world())), plainly)
+                plainly = told_plainly(busy.world())
+                self.assertEqual(all_told(busy), plainly)
+                self.assertEqual(all_told(house_of(busy.world())), plainly)
                 if chance.random() < 0.2:
-                    self.assertEqual(self.all_told(lazy), plainly)
-            self.assertEqual(self.all_told(silent), self.told_plainly(busy.world()))
+                    self.assertEqual(all_told(lazy), plainly)
+            self.assertEqual(all_told(silent), told_plainly(busy.world()))
             self.assertEqual([house.stamp(kind) for kind, parents in busy.world()[0] for house in (busy, lazy)],
                              [silent.stamp(kind) for kind, parents in busy.world()[0] for again in (1, 2)])
 
@@ -97,12 +79,11 @@ class KeepsNothingOrMuch(Twins):
         chance = random.Random(74)
         for turn in range(60):
             house = house_of(world_by_chance(chance))
-            told = self.all_told(house)
+            told = all_told(house)
             kept = kept_by(house)
-            refused = [key for key in told if told[key][0] != "told"]
-            self.assertEqual({key: told[key] for key in told if key not in refused and key[0] != "at"},
-                             {key: outcome(house.ask, *key) for key in told if key not in refused and key[0] != "at"})
+            for asking in [key for key in told if len(key) == 3 and told[key][0] == "told"]:
+                self.assertEqual(outcome(house.ask, *asking), told[asking])
             self.assertEqual(kept_by(house), kept)
-            self.assertEqual(self.all_told(house), told)
+            self.assertEqual(all_told(house), told)
             # What is refused may begin to be reckoned again, but all that it looks for is kept.
             self.assertEqual(kept_by(house)[:-1], kept[:-1])
