@@ -48,9 +48,7 @@ def goes_first(entry):
 
 
 def steps_of(entry):
-    """The steps that lead from 0 to what the entry tells."""
-    if entry[0] == "plain":
-        return (("add", entry[1]),)
+    """The steps that lead from 0 to what an entry tells that is reckoned."""
     if entry[0] == "ahead":
         return (("ask", entry[1]), ("add", entry[2]))
     return entry[1]
